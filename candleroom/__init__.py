@@ -1,0 +1,1 @@
+"""Candleroom: air in a sealed house, and the least vents."""
