@@ -14,6 +14,22 @@ FUNCTIONS = {
         "cost": ["house", "plan"],
         "fault": ["house", "plan"],
     },
+    "least": {
+        "least": ["house"],
+    },
+    "papers": {
+        "bound": ["house", "prices"],
+        "lack": ["house", "places"],
+        "shows_least": ["house", "plan", "whole", "prices"],
+        "shows_short": ["house", "places"],
+    },
+    "mending": {
+        "mended": ["house", "plan", "hour"],
+    },
+    "texts": {
+        "written": ["house"],
+        "read": ["text"],
+    },
 }
 
 CLASSES = {
@@ -96,6 +112,21 @@ class FormTest(unittest.TestCase):
                     if isinstance(node, ast.ImportFrom):
                         self.assertEqual(node.level, 0)
                         self.assertTrue(node.module.startswith("candleroom."))
+
+    def test_no_clock_no_chance_and_no_file_is_asked(self):
+        # Without imports these are left, and the builtins that reach outside.
+        barred = {"open", "input", "print", "exec", "eval", "compile", "id", "hash", "__import__"}
+        for path in self.files():
+            for node in ast.walk(ast.parse(path.read_text(encoding="utf-8"))):
+                if isinstance(node, ast.Name):
+                    with self.subTest(path.name, line=node.lineno):
+                        self.assertNotIn(node.id, barred)
+
+    def test_no_function_assigns_a_module_level_name(self):
+        for path in self.files():
+            for node in ast.walk(ast.parse(path.read_text(encoding="utf-8"))):
+                with self.subTest(path.name):
+                    self.assertNotIsInstance(node, ast.Global)
 
 
 if __name__ == "__main__":
